@@ -1,0 +1,1 @@
+"""Handways: how a work is handed what it needs."""
