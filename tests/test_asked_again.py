@@ -3,9 +3,13 @@
 import copy
 import unittest
 
-from handways.errors import BadCells, BadProgram, BadWays
+from handways.beside import classes, mixed, parted
+from handways.errors import BadCells, BadProgram, BadText, BadWays
+from handways.making import placed, wanted
+from handways.notes import read, written
 from handways.programs import need_program, need_ways
 from handways.running import ran
+from handways.sets import may_set
 
 PROGRAM = (
     (0, 1, (
@@ -24,7 +28,22 @@ PROGRAM = (
 WAYS = ((), ("want", "place"))
 CELLS = (0, 1, 1)
 TOLD = ([0, 1, 2], (0, 2, 1))
-
+BACK = ((), ("back", "place"))
+TEXT = written(PROGRAM)
+# Everything that is asked here, with what it is handed.
+ASKED = (
+    (need_program, {"program": PROGRAM}),
+    (need_ways, {"program": PROGRAM, "ways": WAYS}),
+    (ran, {"program": PROGRAM, "ways": WAYS, "cells": CELLS}),
+    (parted, {"program": PROGRAM, "one": WAYS, "other": BACK}),
+    (classes, {"program": PROGRAM}),
+    (mixed, {"program": PROGRAM, "ways": WAYS}),
+    (may_set, {"program": PROGRAM, "ways": WAYS}),
+    (placed, {"program": PROGRAM, "ways": WAYS}),
+    (wanted, {"program": PROGRAM, "ways": BACK}),
+    (written, {"program": PROGRAM}),
+    (read, {"text": TEXT}),
+)
 
 class AskedAgain(unittest.TestCase):
     def test_the_same_again(self):
@@ -70,6 +89,46 @@ class AskedAgain(unittest.TestCase):
         self.assertIsNone(need_program(program=PROGRAM))
         self.assertIsNone(need_ways(program=PROGRAM, ways=WAYS))
         self.assertEqual(ran(program=PROGRAM, ways=WAYS, cells=CELLS), TOLD)
+
+    def test_each_is_told_the_same_by_names_and_in_order(self):
+        told = [asked(**handed) for asked, handed in ASKED]
+        before = copy.deepcopy((told, ASKED))
+        for _ in range(2):
+            for (asked, handed), answer in zip(ASKED, told):
+                with self.subTest(asked=asked.__name__):
+                    self.assertEqual(asked(*handed.values()), answer)
+                    self.assertEqual(asked(**handed), answer)
+        self.assertEqual((told, ASKED), before)
+
+    def test_each_with_refusals_between(self):
+        told = [asked(**handed) for asked, handed in ASKED]
+        for asked, handed in ASKED:
+            wrong = dict(handed)
+            name = list(handed)[0]
+            wrong[name] = "" if name == "text" else ()
+            with self.assertRaises(BadText if name == "text" else BadProgram):
+                asked(**wrong)
+        self.assertEqual([asked(**handed) for asked, handed in ASKED], told)
+
+    def test_lists_that_are_told_are_new_each_time(self):
+        groups = classes(PROGRAM)
+        count = len(groups)
+        for group in groups:
+            group.append(((), ("none", "none")))
+        groups.append([])
+        again = classes(PROGRAM)
+        self.assertEqual(len(again), count)
+        self.assertEqual(len(sum(again, [])), 16)
+
+    def test_where_each_is_defined(self):
+        places = {
+            "programs": (need_program, need_ways), "running": (ran,), "beside": (parted, classes, mixed),
+            "sets": (may_set,), "making": (placed, wanted), "notes": (written, read),
+            "errors": (BadCells, BadProgram, BadText, BadWays),
+        }
+        for name, asked in places.items():
+            for one in asked:
+                self.assertEqual(one.__module__, "handways." + name)
 
     def test_true_and_false_are_no_numbers(self):
         for truth in (True, False):

@@ -6,36 +6,7 @@ import unittest
 from handways.errors import BadCells, BadProgram, BadText, BadWays, HandError
 from handways.running import ran
 
-WAYS = ("copy", "place", "back", "want")
-
-
-def num(number):
-    return ("num", number)
-
-
-def cell(number):
-    return ("cell", num(number))
-
-
-def own(k):
-    return ("own", k)
-
-
-def par(k):
-    return ("par", k)
-
-
-def plus(one, other):
-    return ("sum", one, other)
-
-
-def put(place, number):
-    return ("set", place, num(number))
-
-
-def say(*things):
-    """A step for each thing, to be taken with a star."""
-    return tuple(("say", thing) for thing in things)
+from maker import WAYS, cell, num, own, par, plus, put, say
 
 
 class Base(unittest.TestCase):

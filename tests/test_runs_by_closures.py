@@ -5,13 +5,12 @@ A thing is here a pair of functions: one reckons its number, one finds its place
 """
 
 import itertools
-import random
 import unittest
 
 from handways.programs import need_program
 from handways.running import ran
 
-WAYS = ("copy", "place", "back", "want")
+from maker import WAYS, Maker
 
 
 def new_place(number):
@@ -78,58 +77,6 @@ def by_closures(program, ways, cells):
     run = Closures(program, ways, cells)
     run.work(0, [])
     return run.said, tuple(run.commons)
-
-
-class Maker:
-    """Makes programs that look like chance, from a seed."""
-
-    def __init__(self, seed):
-        self.chance = random.Random(seed)
-
-    def place(self, work, depth):
-        words = ["cell"] + ["own"] * min(work[1], 2) + ["par"] * (3 if work[0] else 0)
-        word = self.chance.choice(words)
-        if word == "own":
-            return word, self.chance.randrange(work[1])
-        if word == "par":
-            return word, self.chance.randrange(work[0])
-        return word, self.thing(work, depth + 1)
-
-    def thing(self, work, depth=0):
-        choice = self.chance.random()
-        if depth < 3 and choice < 0.6:
-            return self.place(work, depth)
-        if depth < 4 and choice < 0.75:
-            return "sum", self.thing(work, depth + 1), self.thing(work, depth + 1)
-        return "num", self.chance.randrange(3)
-
-    def step(self, heads, at, depth):
-        work = heads[at]
-        choice = self.chance.random()
-        if choice < 0.35:
-            return "set", self.place(work, 0), self.thing(work)
-        if choice < 0.55:
-            return "say", self.thing(work)
-        if choice < 0.7 and depth < 2:
-            return "if", self.thing(work), self.body(heads, at, depth + 1), self.body(heads, at, depth + 1)
-        if at + 1 == len(heads):
-            return "say", self.place(work, 0)
-        called = self.chance.randrange(at + 1, len(heads))
-        return "call", called, tuple(self.thing(work) for _ in range(heads[called][0]))
-
-    def body(self, heads, at, depth=0):
-        return tuple(self.step(heads, at, depth) for _ in range(self.chance.randrange(1, 5)))
-
-    def program(self):
-        many = self.chance.randrange(1, 5)
-        heads = [(self.chance.randrange(4) if at else 0, self.chance.randrange(4)) for at in range(many)]
-        return tuple(head + (self.body(heads, at),) for at, head in enumerate(heads))
-
-    def ways(self, program):
-        return tuple(tuple(self.chance.choice(WAYS) for _ in range(work[0])) for work in program)
-
-    def cells(self):
-        return tuple(self.chance.randrange(3) for _ in range(3))
 
 
 class ByClosures(unittest.TestCase):
